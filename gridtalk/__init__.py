@@ -1,0 +1,1 @@
+"""Expressions over matrices, in eight arithmetics."""
