@@ -4,10 +4,8 @@ Operations take and give meanings, which are whole and may be of any size. Only 
 comes out back to a word, so nothing that's on the way has to fit.
 """
 
-WORDS = 18446744073709551616
-HALF_OF_WORDS = 9223372036854775808
-LAST_WORD = 18446744073709551615
-BITS_OF_A_WORD = 64
+from gridtalk.polynomials import polynomial_product
+from gridtalk.words import HALF_OF_WORDS, LAST_WORD, WORDS
 
 WRAPPING = 0
 MODULAR = 1
@@ -37,11 +35,11 @@ def whole_product(x, y):
 
 
 def lesser(x, y):
-    return min(x, y)
+    return x if x < y else y
 
 
 def greater(x, y):
-    return max(x, y)
+    return x if x > y else y
 
 
 def either(x, y):
@@ -56,22 +54,35 @@ def just_one(x, y):
     return x ^ y
 
 
-def polynomial_product(x, y, modulus):
-    """x times y, less multiples of X^64 + modulus."""
-    # Taking y's coefficients from the highest on, the product so far is only ever moved by one X,
-    # so at most one multiple has to be taken off at each step.
-    product = 0
-    for power in reversed(range(BITS_OF_A_WORD)):
-        product = product << 1
-        if product >= WORDS:
-            product = product ^ WORDS ^ modulus
-        if (y >> power) & 1 == 1:
-            product = product ^ x
-    return product
+def sum_of_all(meanings):
+    return sum(meanings)
+
+
+def least_of_all(meanings):
+    return min(meanings, default=LAST_WORD)
+
+
+def greatest_of_all(meanings):
+    return max(meanings, default=0)
+
+
+def any_of_all(meanings):
+    total = 0
+    for meaning in meanings:
+        total = total | meaning
+    return total
+
+
+def odd_of_all(meanings):
+    total = 0
+    for meaning in meanings:
+        total = total ^ meaning
+    return total
 
 
 # A row for each kind, in the order of the kinds; the last kind's times asks for its m and isn't here.
 PLUS = (whole_sum, whole_sum, whole_sum, lesser, greater, either, just_one, just_one)
+SUMS = (sum_of_all, sum_of_all, sum_of_all, least_of_all, greatest_of_all, any_of_all, odd_of_all, odd_of_all)
 TIMES = (whole_product, whole_product, whole_product, whole_sum, lesser, both, both)
 MINUS = (whole_difference, whole_difference, whole_difference, None, None, None, just_one, just_one)
 NONE = (0, 0, 0, 18446744073709551615, 0, 0, 0, 0)
@@ -90,10 +101,18 @@ def has_number(arithmetic, word):
     return arithmetic.kind != MODULAR or word < arithmetic.modulus
 
 
+def are_numbers(arithmetic, words):
+    return all([has_number(arithmetic, word) for word in words])
+
+
 def meaning_of(arithmetic, word):
     if arithmetic.kind == SIGNED and word >= HALF_OF_WORDS:
         return word - WORDS
     return word
+
+
+def meanings_of(arithmetic, words):
+    return [meaning_of(arithmetic, word) for word in words]
 
 
 def word_of(arithmetic, meaning):
@@ -109,14 +128,35 @@ def word_of(arithmetic, meaning):
     return meaning
 
 
+def words_of(arithmetic, meanings):
+    """The words of all that came out, None where one of them doesn't fit."""
+    words = [word_of(arithmetic, meaning) for meaning in meanings]
+    return None if None in words else words
+
+
+def always_fits(arithmetic):
+    return arithmetic.kind != SIGNED
+
+
 def plus(arithmetic, x, y):
     return PLUS[arithmetic.kind](x, y)
+
+
+def sum_of(arithmetic, meanings):
+    return SUMS[arithmetic.kind](meanings)
 
 
 def times(arithmetic, x, y):
     if arithmetic.kind == POLYNOMIALS:
         return polynomial_product(x, y, arithmetic.modulus)
     return TIMES[arithmetic.kind](x, y)
+
+
+def sum_of_products(arithmetic, xs, ys):
+    kind = arithmetic.kind
+    if kind == POLYNOMIALS:
+        return sum_of(arithmetic, [polynomial_product(x, y, arithmetic.modulus) for x, y in zip(xs, ys)])
+    return sum_of(arithmetic, [TIMES[kind](x, y) for x, y in zip(xs, ys)])
 
 
 def has_minus(arithmetic):

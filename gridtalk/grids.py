@@ -1,22 +1,25 @@
 """The calls of a line, made one behind another, and what is answered to them."""
 
-from gridtalk.arithmetics import Arithmetic, has_minus, has_number, is_arithmetic
-from gridtalk.arithmetics import meaning_of, minus, plus, times, word_of
+from gridtalk.arithmetics import Arithmetic, are_numbers, has_minus, has_number, is_arithmetic
+from gridtalk.arithmetics import meaning_of, meanings_of, minus, one_of, plus, sum_of_products, times, word_of
+from gridtalk.expressions import Expression
+from gridtalk.operations import Grid
+from gridtalk.refusals import DOES_NOT_FIT, DONE, NO_MATRIX, NO_NUMBER, NO_SUCH_ARITHMETIC
+from gridtalk.refusals import NOT_AS_ASKED, OUT_OF_BOUNDS, SECOND, TABLE_IS_FULL
+from gridtalk.sizes import is_side
 
-LARGEST_SIDE = 16
 MOST_MATRICES = 16
+MOST_TIMES_ITSELF = 1000
 
-DONE = 0
-NO_SUCH_ARITHMETIC = -1
-NO_MATRIX = -2
-NOT_AS_ASKED = -4
-TABLE_IS_FULL = -5
-NO_NUMBER = -7
-DOES_NOT_FIT = -8
+# What alike tells first: of one value; of two; and, of two, whether their entries or their sizes differ.
+ALIKE = 1
+NOT_ALIKE = 0
+ENTRIES_DIFFER = 0
+SIZES_DIFFER = 1
 
 
 class Board:
-    """What the calls of one line work on: the arithmetic, and the table of (rows, columns, entries)."""
+    """What the calls of one line work on: the arithmetic, and the table of matrices."""
 
     def __init__(self):
         self.arithmetic = Arithmetic(0, 0)
@@ -52,10 +55,6 @@ def call_arithmetic(board, numbers, rows):
     return [DONE]
 
 
-def is_side(length):
-    return 1 <= length <= LARGEST_SIDE
-
-
 def is_matrix(height, width, entries):
     return is_side(height) and is_side(width) and len(entries) == height * width
 
@@ -65,7 +64,7 @@ def call_matrix(board, numbers, rows):
         return [NO_MATRIX]
     if len(board.table) == MOST_MATRICES:
         return [TABLE_IS_FULL]
-    board.table.append((numbers[0], numbers[1], rows[0]))
+    board.table.append(Grid(numbers[0], numbers[1], rows[0]))
     return [len(board.table) - 1]
 
 
@@ -82,9 +81,8 @@ def answer_meaning(arithmetic, meaning):
 
 
 def answer_operation(arithmetic, operation, words):
-    for word in words:
-        if not has_number(arithmetic, word):
-            return [NO_NUMBER]
+    if not are_numbers(arithmetic, words):
+        return [NO_NUMBER]
     x = meaning_of(arithmetic, words[0])
     y = meaning_of(arithmetic, words[1])
     return answer_meaning(arithmetic, operation(arithmetic, x, y))
@@ -104,6 +102,78 @@ def call_times(board, numbers, rows):
     return answer_operation(board.arithmetic, times, numbers)
 
 
+def call_raise(board, numbers, rows):
+    if numbers[1] > MOST_TIMES_ITSELF:
+        return [OUT_OF_BOUNDS]
+    if not has_number(board.arithmetic, numbers[0]):
+        return [NO_NUMBER]
+    x = meaning_of(board.arithmetic, numbers[0])
+    result = one_of(board.arithmetic)
+    for count in range(numbers[1]):
+        result = times(board.arithmetic, result, x)
+    return answer_meaning(board.arithmetic, result)
+
+
+def call_dot(board, numbers, rows):
+    if len(rows[0]) != len(rows[1]):
+        return [OUT_OF_BOUNDS]
+    if not are_numbers(board.arithmetic, rows[0] + rows[1]):
+        return [NO_NUMBER]
+    xs = meanings_of(board.arithmetic, rows[0])
+    ys = meanings_of(board.arithmetic, rows[1])
+    return answer_meaning(board.arithmetic, sum_of_products(board.arithmetic, xs, ys))
+
+
+def expression_of(board, numbers):
+    return Expression(board.arithmetic, board.table, numbers)
+
+
+def call_judge(board, numbers, rows):
+    x = expression_of(board, rows[0])
+    return x.judge() or [DONE] + list(x.size())
+
+
+def call_value(board, numbers, rows):
+    x = expression_of(board, rows[0])
+    refusal = x.judge() or x.look_at_words() or x.work_out()
+    return refusal or [DONE] + list(x.size()) + x.words()
+
+
+def refused_entry(size, row, column):
+    return [] if row < size[0] and column < size[1] else [OUT_OF_BOUNDS]
+
+
+def call_entry(board, numbers, rows):
+    x = expression_of(board, rows[0])
+    refusal = x.judge() or refused_entry(x.size(), numbers[0], numbers[1]) or x.look_at_words() or x.work_out()
+    return refusal or [DONE, x.words()[numbers[0] * x.size()[1] + numbers[1]]]
+
+
+def refused_second(refusal):
+    """The refusal of alike's second expression, told apart from the first one's."""
+    return [refusal[0] - SECOND, refusal[1]] if refusal else []
+
+
+def answer_alike(words, other_words, width):
+    for place in range(len(words)):
+        if words[place] != other_words[place]:
+            return [NOT_ALIKE, ENTRIES_DIFFER, place // width, place % width]
+    return [ALIKE]
+
+
+def call_alike(board, numbers, rows):
+    x = expression_of(board, rows[0])
+    y = expression_of(board, rows[1])
+    refusal = x.judge() or refused_second(y.judge())
+    if refusal:
+        return refusal
+    if x.size() != y.size():
+        return [NOT_ALIKE, SIZES_DIFFER] + list(x.size())
+    refusal = x.look_at_words() or refused_second(y.look_at_words())
+    refusal = refusal or x.work_out() or refused_second(y.work_out())
+    return refusal or answer_alike(x.words(), y.words(), x.size()[1])
+
+
 # By the call's number: how many whole numbers it has, how many lists behind them, and what answers it.
 CALLS = (
     (2, 0, call_arithmetic),
@@ -112,6 +182,12 @@ CALLS = (
     (2, 0, call_plus),
     (2, 0, call_minus),
     (2, 0, call_times),
+    (2, 0, call_raise),
+    (0, 2, call_dot),
+    (0, 1, call_judge),
+    (0, 1, call_value),
+    (2, 1, call_entry),
+    (0, 2, call_alike),
 )
 
 

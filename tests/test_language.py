@@ -23,6 +23,10 @@ METHODS = set("""append clear copy count endswith extend find get index insert i
 isupper items join keys ljust lower lstrip partition pop remove replace reverse rfind rjust rpartition rsplit rstrip
 setdefault split splitlines startswith strip update upper values zfill bit_length""".split())
 
+# What's walked on the spot, and what it may stand in as the first thing.
+WALKED = {"zip", "enumerate", "reversed", "range"}
+WALKERS = {"list", "tuple", "dict", "sorted", "sum", "any", "all", "enumerate", "zip"}
+
 DUNDERS = {"__init__", "__eq__", "__repr__", "__str__", "__len__"}
 
 NO_NAMES = set("""register mro elements open input version_info with_traceback add_note attrgetter breakpoint builtins
@@ -133,6 +137,32 @@ class Language(unittest.TestCase):
                 self.assertIsInstance(node.right, ast.Constant, where)
             if isinstance(node, ast.Compare) and any(isinstance(op, (ast.Is, ast.IsNot)) for op in node.ops):
                 self.assertTrue(all(isinstance(part, ast.Constant) for part in node.comparators), where)
+
+    def test_walked_at_once(self):
+        for name, tree in self.trees.items():
+            walked = []
+            for node in ast.walk(tree):
+                if isinstance(node, (ast.For, ast.comprehension)):
+                    walked.append(node.iter)
+                if isinstance(node, ast.Call) and isinstance(node.func, ast.Name) and node.func.id in WALKERS:
+                    walked.extend(node.args[:1])
+            for node in ast.walk(tree):
+                if isinstance(node, ast.Call) and isinstance(node.func, ast.Name) and node.func.id in WALKED:
+                    self.assertIn(node, walked, f"{name}: {node.lineno}")
+
+    def test_keywords(self):
+        for name, node in self.nodes:
+            if isinstance(node, ast.Call) and node.keywords:
+                self.assertIn((node.func.id, [keyword.arg for keyword in node.keywords]),
+                              [("min", ["default"]), ("max", ["default"])], f"{name}: {node.lineno}")
+
+    def test_methods_are_called_where_they_stand(self):
+        own_methods = {part.name for name, node in self.nodes if isinstance(node, ast.ClassDef)
+                       for part in node.body if isinstance(part, ast.FunctionDef)}
+        called = [node.func for name, node in self.nodes if isinstance(node, ast.Call)]
+        for name, node in self.nodes:
+            if isinstance(node, ast.Attribute) and node.attr in own_methods | METHODS:
+                self.assertIn(node, called, f"{name}: {node.lineno}")
 
     def test_names(self):
         for name, tree in self.trees.items():
